@@ -1,0 +1,105 @@
+"""The calls that change a table. Each answers one number; below 0 it's a refusal, and nothing is changed."""
+
+from standtable.order import Order
+from standtable.refusals import KEY_TAKEN
+from standtable.refusals import MARKS_BAR
+from standtable.refusals import NOT_THERE
+from standtable.refusals import NO_ORDER
+from standtable.refusals import NO_ROOM
+from standtable.refusals import SAME_KEYS
+from standtable.refusals import WRONG_FORM
+from standtable.rules import is_order
+from standtable.rules import is_row
+from standtable.table import Cursor
+from standtable.table import ROOM_FOR_CURSORS
+from standtable.table import ROOM_FOR_ORDERS
+
+
+def begin_anew(table):
+    """Make the table new."""
+    table.begin()
+    return 0
+
+
+def add_order(table, unique, codes):
+    """Add an order with all rows in it, and answer its number."""
+    if unique > 1 or not is_order(codes):
+        return WRONG_FORM
+    if len(table.orders) >= ROOM_FOR_ORDERS:
+        return NO_ROOM
+    order = Order(codes, unique == 1)
+    order.stand_all(table.rows)
+    if order.unique and order.has_same_keys():
+        return SAME_KEYS
+    if len(table.marks) > 0:
+        return MARKS_BAR
+    table.orders.append(order)
+    return len(table.orders) - 1
+
+
+def put_row(table, row):
+    """Put a row, and answer its number."""
+    if not is_row(row):
+        return WRONG_FORM
+    if not table.has_room_for_row():
+        return NO_ROOM
+    number = table.next_number
+    barring = table.barring_order(number, row)
+    if barring is not None:
+        return KEY_TAKEN - barring
+    if not table.has_room_for_change():
+        return MARKS_BAR
+    table.add_row(number, row)
+    table.next_number = number + 1
+    table.note_change()
+    return number
+
+
+def set_row(table, number, row):
+    """Give a row other fields, and take the cursors that follow it along."""
+    if not is_row(row):
+        return WRONG_FORM
+    if number not in table.rows:
+        return NOT_THERE
+    barring = table.barring_order(number, row)
+    if barring is not None:
+        return KEY_TAKEN - barring
+    if not table.has_room_for_change():
+        return MARKS_BAR
+    table.move_followers(number, row)
+    table.remove_row(number)
+    table.add_row(number, row)
+    table.note_change()
+    return 0
+
+
+def take_row(table, number):
+    """Take a row out."""
+    if number not in table.rows:
+        return NOT_THERE
+    if not table.has_room_for_change():
+        return MARKS_BAR
+    table.remove_row(number)
+    table.note_change()
+    return 0
+
+
+def add_cursor(table, k, follows):
+    """Add a cursor before all on order k, and answer the least number that was free."""
+    if follows > 1:
+        return WRONG_FORM
+    if not table.has_order(k):
+        return NO_ORDER
+    for number in range(ROOM_FOR_CURSORS):
+        if number not in table.cursors:
+            table.cursors[number] = Cursor(k, follows == 1)
+            return number
+    return NO_ROOM
+
+
+def drop_cursor(table, number):
+    """Take a cursor away."""
+    if number not in table.cursors:
+        return NOT_THERE
+    table.cursors.pop(number)
+    return 0
