@@ -37,6 +37,16 @@ def add_order(table, unique, codes):
     return len(table.orders) - 1
 
 
+def refusal_of_fields(table, number, row):
+    """The refusal when row number is to have these fields and unique orders or marks bar it, or 0."""
+    barring = table.barring_order(number, row)
+    if barring is not None:
+        return KEY_TAKEN - barring
+    if not table.has_room_for_change():
+        return MARKS_BAR
+    return 0
+
+
 def put_row(table, row):
     """Put a row, and answer its number."""
     if not is_row(row):
@@ -44,11 +54,9 @@ def put_row(table, row):
     if not table.has_room_for_row():
         return NO_ROOM
     number = table.next_number
-    barring = table.barring_order(number, row)
-    if barring is not None:
-        return KEY_TAKEN - barring
-    if not table.has_room_for_change():
-        return MARKS_BAR
+    refusal = refusal_of_fields(table, number, row)
+    if refusal < 0:
+        return refusal
     table.add_row(number, row)
     table.next_number = number + 1
     table.note_change()
@@ -61,11 +69,9 @@ def set_row(table, number, row):
         return WRONG_FORM
     if number not in table.rows:
         return NOT_THERE
-    barring = table.barring_order(number, row)
-    if barring is not None:
-        return KEY_TAKEN - barring
-    if not table.has_room_for_change():
-        return MARKS_BAR
+    refusal = refusal_of_fields(table, number, row)
+    if refusal < 0:
+        return refusal
     table.move_followers(number, row)
     table.remove_row(number)
     table.add_row(number, row)
