@@ -1,17 +1,14 @@
-"""The calls that change a table. Each answers one number; below 0 it's a refusal, and nothing is changed."""
+"""The calls that change orders and rows. Each answers one number; below 0 it's a refusal, and nothing is changed."""
 
 from standtable.order import Order
 from standtable.refusals import KEY_TAKEN
 from standtable.refusals import MARKS_BAR
 from standtable.refusals import NOT_THERE
-from standtable.refusals import NO_ORDER
 from standtable.refusals import NO_ROOM
 from standtable.refusals import SAME_KEYS
 from standtable.refusals import WRONG_FORM
 from standtable.rules import is_order
 from standtable.rules import is_row
-from standtable.table import Cursor
-from standtable.table import ROOM_FOR_CURSORS
 from standtable.table import ROOM_FOR_ORDERS
 
 
@@ -87,25 +84,4 @@ def take_row(table, number):
         return MARKS_BAR
     table.remove_row(number)
     table.note_change()
-    return 0
-
-
-def add_cursor(table, k, follows):
-    """Add a cursor before all on order k, and answer the least number that was free."""
-    if follows > 1:
-        return WRONG_FORM
-    if not table.has_order(k):
-        return NO_ORDER
-    for number in range(ROOM_FOR_CURSORS):
-        if number not in table.cursors:
-            table.cursors[number] = Cursor(k, follows == 1)
-            return number
-    return NO_ROOM
-
-
-def drop_cursor(table, number):
-    """Take a cursor away."""
-    if number not in table.cursors:
-        return NOT_THERE
-    table.cursors.pop(number)
     return 0

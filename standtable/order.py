@@ -7,6 +7,11 @@ from standtable.rules import key_of
 FIRST_NUMBER = 0
 LAST_NUMBER = 4294967295
 
+# Keys have numbers from 0 to 18446744073709551615 in them. These two places have the number 0, which
+# no row has, so whoever asks them for a row's number is told that there's none.
+BEFORE_ALL = ((-1,), 0)
+BEHIND_ALL = ((18446744073709551616,), 0)
+
 
 class Order:
     """An order's codes, and the rows' places, from the first on.
@@ -47,6 +52,16 @@ class Order:
             else:
                 high = middle
         return low
+
+    def place_behind(self, place):
+        """The place of the first row behind a place, or behind all."""
+        position = self.how_many_before((place[0], place[1] + 1))
+        return self.places[position] if position < len(self.places) else BEHIND_ALL
+
+    def place_before(self, place):
+        """The place of the last row before a place, or before all."""
+        position = self.how_many_before(place) - 1
+        return self.places[position] if position >= 0 else BEFORE_ALL
 
     def how_many_before_key(self, key):
         """How many rows are before key by the order alone."""

@@ -1,4 +1,4 @@
-"""Reads the one list that calls are written in, from its beginning to its end."""
+"""Reads a list of numbers, as calls and tables are written in, from its beginning to its end."""
 
 
 class Reader:
@@ -18,9 +18,12 @@ class Reader:
         self.position = self.position + 1
         return number
 
-    def read_list(self):
-        """Read a list that has its length before it, as a list of its own."""
-        length = self.read_number()
+    def read_numbers(self, length):
+        """Read so many numbers, as a list of its own."""
         start = self.position
         self.position = start + length
         return self.numbers[start:self.position]
+
+    def read_list(self):
+        """Read a list that has its length before it, as a list of its own."""
+        return self.read_numbers(self.read_number())

@@ -2,15 +2,15 @@
 
 FIELDS = 4
 LAST_CODE = 16
-FIELD_END = 18446744073709551616
-SIGN_START = 9223372036854775808
+ALL_BITS = 18446744073709551615
+SIGN_BIT = 9223372036854775808
 
 
 def is_row(numbers):
     """Tell if these numbers are a row's fields."""
     if len(numbers) != FIELDS:
         return False
-    return all([0 <= number < FIELD_END for number in numbers])
+    return all([0 <= number <= ALL_BITS for number in numbers])
 
 
 def is_order(codes):
@@ -37,16 +37,18 @@ def has_sign(code):
     return (code - 1) // 8 == 1
 
 
-def rising_value(code, row):
-    """A row's field as a number that is the lesser the earlier the row comes by this code."""
-    value = row[field_of(code)]
-    if has_sign(code) and value >= SIGN_START:
-        value = value - FIELD_END
+def turned(code, value):
+    """A field's value with bits turned so that it is the lesser the earlier it comes by this code.
+
+    Turned once more by the same code, it is the field's value again.
+    """
+    if has_sign(code):
+        value = value ^ SIGN_BIT
     if goes_down(code):
-        value = -value
+        value = value ^ ALL_BITS
     return value
 
 
 def key_of(codes, row):
     """A row's key: keys compare as tuples the way the order compares their rows."""
-    return tuple([rising_value(code, row) for code in codes])
+    return tuple([turned(code, row[field_of(code)]) for code in codes])

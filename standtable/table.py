@@ -1,13 +1,13 @@
 """A table's state: rows, orders, cursors and marks, kept in step with one another."""
 
+from standtable.order import BEFORE_ALL
+
 ROOM_FOR_ROWS = 256
 ROOM_FOR_ORDERS = 6
 ROOM_FOR_CURSORS = 16
+ROOM_FOR_MARKS = 8
 ROOM_FOR_CHANGES = 512
 LAST_ROW_NUMBER = 2147483647
-
-# No key of an order has so low a number in it, so this is before every row's place.
-BEFORE_ALL = ((-18446744073709551616,), 0)
 
 
 class Cursor:
@@ -17,6 +17,15 @@ class Cursor:
         self.k = k
         self.follows = follows
         self.place = BEFORE_ALL
+
+
+class Mark:
+    """The rows and the next number as they were, and how many changes stood then since the first mark."""
+
+    def __init__(self, rows, next_number, changes):
+        self.rows = dict(rows)
+        self.next_number = next_number
+        self.changes = changes
 
 
 class Table:
@@ -65,14 +74,38 @@ class Table:
         for order in self.orders:
             order.leave(number, row)
 
+    def restore(self, rows, next_number):
+        """Have these rows and this next number in the place of what was; cursors stay where they are."""
+        self.rows = dict(rows)
+        self.next_number = next_number
+        self.stand_rows()
+
+    def stand_rows(self):
+        """Give all rows their places in every order, whatever stood there."""
+        for order in self.orders:
+            order.stand_all(self.rows)
+
+    def become(self, other):
+        """Have another table's orders and rows, without cursors and marks. The other isn't used any more."""
+        self.begin()
+        self.rows = other.rows
+        self.next_number = other.next_number
+        self.orders = other.orders
+
+    def row_at(self, cursor):
+        """The number of the row that a cursor is at, or 0."""
+        number = cursor.place[1]
+        if number not in self.rows:
+            return 0
+        place = self.orders[cursor.k].place_of(number, self.rows[number])
+        return number if place == cursor.place else 0
+
     def move_followers(self, number, row):
         """Move the cursors that follow and are at a row to the place of its coming fields."""
         for cursor in self.cursors.values():
-            order = self.orders[cursor.k]
-            if cursor.follows and cursor.place == order.place_of(number, self.rows[number]):
-                cursor.place = order.place_of(number, row)
+            if cursor.follows and self.row_at(cursor) == number:
+                cursor.place = self.orders[cursor.k].place_of(number, row)
 
     def note_change(self):
-        """Count a put, set or take; only marks ask for the count."""
-        if len(self.marks) > 0:
-            self.changes = self.changes + 1
+        """Count a put, set or take. The first mark begins the count anew, and only marks ask for it."""
+        self.changes = self.changes + 1

@@ -1,103 +1,73 @@
-"""Long histories of calls, the package held against the model, and P1 and P2 after every call."""
+"""Long histories of all thirty calls: the package held against the model, and P1, P2 and P6 after every call."""
 
-import random
 import unittest
 
 from standtable.book import CALLS, answers
 from standtable.reader import Reader
 from standtable.table import Table
+from tests.making import NAMES, Maker, written
 from tests.model import Model, compare
-from tests.writing import HALF, TOP, listed
+from tests.writing import listed
 
-NAMES = ["new", "order", "put", "set", "take", "has", "row", "count", "nth", "rank", "find", "many", "sum", "cursor",
-         "drop"]
-EDGES = [0, 1, 2, HALF - 1, HALF, HALF + 1, TOP - 1, TOP]
-
-
-class Maker:
-    """Makes calls from a seed: (name, arguments), most of them such that they aren't refused."""
-
-    def __init__(self, seed):
-        self.dice = random.Random(seed)
-        self.values = self.dice.choice([EDGES, EDGES[:2], EDGES[2:5], list(range(6))])
-        self.weights = [1, 8, 60, 25, 15, 5, 5, 5, 25, 20, 30, 15, 15, 8, 5]
-        if seed % 3 == 0:
-            self.weights[0] = 0
-        if seed % 7 == 0:
-            self.weights[0] = 0
-            self.weights[NAMES.index("cursor")] = 200
-
-    def fields(self):
-        length = 4 if self.dice.random() < 0.96 else self.dice.randrange(9)
-        return [self.dice.choice(self.values) for each in range(length)]
-
-    def codes(self):
-        if self.dice.random() < 0.1:
-            return [self.dice.choice([0, 1, 2, 5, 16, 17, 255]) for each in range(self.dice.randrange(9))]
-        chosen = self.dice.sample(range(4), self.dice.randint(1, 4))
-        return [1 + f + 4 * self.dice.randrange(4) for f in chosen]
-
-    def flag(self):
-        return self.dice.choice([0, 0, 0, 1, 1, 1, 2])
-
-    def small(self, end):
-        return self.dice.choice([self.dice.randrange(end), self.dice.randrange(end), self.dice.randrange(3)])
-
-    def call(self):
-        name = self.dice.choices(NAMES, self.weights)[0]
-        k, n = self.small(7), self.small(60)
-        makers = {
-            "order": lambda: [self.flag(), self.codes()],
-            "put": lambda: [self.fields()],
-            "set": lambda: [n, self.fields()],
-            "take": lambda: [n],
-            "has": lambda: [n],
-            "row": lambda: [n],
-            "nth": lambda: [k, n],
-            "rank": lambda: [k, n],
-            "find": lambda: [k, self.small(5), self.fields()],
-            "many": lambda: [k, self.fields(), self.fields()],
-            "sum": lambda: [k, self.small(5), self.fields(), self.fields()],
-            "cursor": lambda: [k, self.flag()],
-            "drop": lambda: [self.small(18)],
-        }
-        return name, makers[name]() if name in makers else []
+# The refusals of each call, -20 for all that say which order bars.
+REFUSALS = {
+    "order": (-1, -3, -5, -9), "put": (-1, -3, -20, -9), "set": (-1, -4, -20, -9), "take": (-4, -9), "row": (-4,),
+    "nth": (-2,), "rank": (-2, -4), "find": (-1, -2), "many": (-1, -2), "sum": (-1, -2), "cursor": (-1, -2, -3),
+    "drop": (-4,), "go": (-4,), "seek": (-1, -4), "at": (-4,), "next": (-4,), "prev": (-4,), "walk": (-1, -2),
+    "mark": (-3,), "back": (-4,), "keep": (-4,), "load": (-6,), "before": (-1,), "pack": (-1,), "unpack": (-1,),
+}
 
 
-def written(name, args):
-    out = [NAMES.index(name)]
-    for arg in args:
-        out += listed(arg) if isinstance(arg, list) else [arg]
-    return out
+def kind_of(name, told):
+    return name, 0 if told[0] >= 0 else max(told[0], -20)
 
 
 class Histories(unittest.TestCase):
+    def history(self, seed):
+        """A history's calls, and what the model answers."""
+        model = Model()
+        maker = Maker(seed, model)
+        # A hundred calls fill no table, so some histories are longer than a list of calls may be.
+        if seed >= 590:
+            maker.weights.update(new=0, load=0, put=300)
+        # Nor do they often reach the last change that marks allow.
+        if seed >= 595:
+            maker.weights.update(put=400, set=300, take=300, walk=100, back=0, keep=0)
+            maker.whats = [0, 1, 2, 3, 5]
+            maker.values = list(range(1000))
+        # Without an order most calls are refused.
+        calls = [("order", [seed % 2, maker.codes()])]
+        wanted = [model.order(*calls[0][1])]
+        for each in range(99 if seed < 590 else 900):
+            name, args = maker.call()
+            calls.append((name, args))
+            wanted.append(getattr(model, name)(*args))
+        return calls, wanted
+
     def test_the_model_answers_the_same(self):
         seen = set()
-        for seed in range(400):
-            maker = Maker(seed)
-            # A hundred calls fill no table, so some histories are longer than a list of calls may be.
-            if seed >= 390:
-                maker.weights[0] = 0
-                maker.weights[NAMES.index("put")] = 300
-            calls = [maker.call() for each in range(100 if seed < 390 else 600)]
-            model = Model()
-            wanted = [getattr(model, name)(*args) for name, args in calls]
-            seen.update((name, min(told[0], 0)) for (name, args), told in zip(calls, wanted))
-            given = [number for call in calls for number in written(*call)]
-            self.assertEqual(answers(given), [number for told in wanted for number in listed(told)], seed)
-        for name, refusals in {"order": (-1, -3, -5), "put": (-1, -3, -20, -22), "set": (-1, -4, -20, -21),
-                               "rank": (-2, -4), "cursor": (-1, -2, -3), "drop": (-4,), "find": (-1, -2)}.items():
-            for refusal in refusals + (0,):
+        for seed in range(600):
+            calls, wanted = self.history(seed)
+            seen.update(kind_of(name, told) for (name, args), told in zip(calls, wanted))
+            told = answers([number for call in calls for number in written(*call)])
+            self.assertEqual(told, [number for answer in wanted for number in listed(answer)], seed)
+        for name in NAMES:
+            for refusal in REFUSALS.get(name, ()) + (0,):
                 self.assertIn((name, refusal), seen)
+        self.assertEqual({name for name, refusal in seen if refusal < 0}, set(REFUSALS))
+
+    def test_refused_calls_change_nothing(self):
+        """Without the calls that were refused, the others are answered the same."""
+        for seed in range(0, 600, 3):
+            pairs = [(call, told) for call, told in zip(*self.history(seed)) if told[0] >= 0]
+            given = [number for call, told in pairs for number in written(*call)]
+            self.assertEqual(answers(given), [number for call, told in pairs for number in listed(told)], seed)
 
     def test_every_order_has_all_rows_by_their_places(self):
         """P1, and P2: no two rows of a unique order have the same key, after whatever call."""
-        for seed in range(60):
-            maker = Maker(seed)
+        for seed in range(100):
             table = Table()
-            for each in range(100):
-                name, args = maker.call()
+            for name, args in self.history(seed)[0]:
                 CALLS[NAMES.index(name)](table, Reader(written(name, args)[1:]))
                 self.check(table)
 
@@ -110,6 +80,16 @@ class Histories(unittest.TestCase):
                 side = compare(order.codes, table.rows[m], table.rows[n])
                 self.assertTrue(side < 0 or side == 0 and m < n)
                 self.assertFalse(order.unique and side == 0)
+
+    def test_what_is_saved_is_read_after_whatever_history(self):
+        """P6, and that a table goes on from its bytes as from its calls, but for cursors and marks."""
+        for seed in range(150):
+            calls = [number for call in self.history(seed)[0] for number in written(*call)]
+            octets = answers(calls + [24])
+            octets = octets[-(len(octets) - len(answers(calls)) - 2):]
+            told = answers([25] + listed(octets) + [24, 7])
+            self.assertEqual(told[:-5], [1, 0, len(octets) + 1, len(octets)] + octets)
+            self.assertEqual(told[-3:-1], [octets[0], 0])
 
 
 if __name__ == "__main__":

@@ -93,6 +93,10 @@ class Language(unittest.TestCase):
                 if isinstance(node, ast.Assign):
                     bound.append(node.targets[0].id)
                     self.assertIsInstance(node.value, (ast.Constant, ast.UnaryOp, ast.Tuple), name)
+                    defs = [top.name for top in tree.body if isinstance(top, ast.FunctionDef)
+                            and top.lineno < node.lineno]
+                    for inner in ast.walk(node.value):
+                        self.assertTrue(not isinstance(inner, ast.Name) or inner.id in defs, (name, node.lineno))
             self.assertEqual(len(bound), len(set(bound)), name)
             if name == "__init__.py":
                 self.assertEqual(bound, [])
@@ -140,6 +144,29 @@ class Language(unittest.TestCase):
             for node in ast.walk(tree):
                 if isinstance(node, ast.Name) and node.id not in given + tops:
                     self.assertIn(node.id, BUILTINS, (name, node.lineno))
+
+    def test_walked_at_once_and_sets_not_kept(self):
+        for name, tree in trees():
+            walked, beside = [], []
+            for node in ast.walk(tree):
+                if isinstance(node, (ast.For, ast.comprehension)):
+                    walked.append(node.iter)
+                if isinstance(node, ast.Call) and isinstance(node.func, ast.Name) and node.args:
+                    if node.func.id in "list tuple dict sorted sum any all enumerate zip min max".split():
+                        walked.append(node.args[0])
+                    if node.func.id in ("len", "sorted"):
+                        beside.append(node.args[0])
+                if isinstance(node, ast.Compare):
+                    beside += node.comparators + [node.left]
+            for node in ast.walk(tree):
+                if not isinstance(node, ast.Call):
+                    continue
+                if isinstance(node.func, ast.Name) and node.func.id in ("zip", "enumerate", "reversed", "range"):
+                    self.assertIn(node, walked, (name, node.lineno))
+                if isinstance(node.func, ast.Attribute) and node.func.attr in ("items", "keys", "values"):
+                    self.assertIn(node, walked, (name, node.lineno))
+                if isinstance(node.func, ast.Name) and node.func.id in ("set", "frozenset"):
+                    self.assertIn(node, beside, (name, node.lineno))
 
     def test_functions(self):
         for name, node in nodes(ast.FunctionDef, ast.Lambda):

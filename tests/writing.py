@@ -70,6 +70,89 @@ def drop(c):
     return [14, c]
 
 
+def go(c, n):
+    return [15, c, n]
+
+
+def seek(c, behind, key):
+    return [16, c, behind] + listed(key)
+
+
+def at(c):
+    return [17, c]
+
+
+def next_(c):
+    return [18, c]
+
+
+def prev(c):
+    return [19, c]
+
+
+def walk(k, most, a, b, *deeds):
+    """A walk with its deeds as threes: (what, f, x)."""
+    return walk_of(k, most, a, b, joined(deeds))
+
+
+def walk_of(k, most, a, b, numbers):
+    """A walk with its deeds as they're written, be they deeds or not."""
+    return [20, k, most] + listed(a) + listed(b) + listed(numbers)
+
+
+def mark():
+    return [21]
+
+
+def back():
+    return [22]
+
+
+def keep():
+    return [23]
+
+
+def save():
+    return [24]
+
+
+def load(octets):
+    return [25] + listed(octets)
+
+
+def sound(*codes):
+    return [26] + listed(codes)
+
+
+def before(codes, a, b):
+    return [27] + listed(codes) + listed(a) + listed(b)
+
+
+def pack(codes, fields):
+    return [28] + listed(codes) + listed(fields)
+
+
+def unpack(codes, octets):
+    return [29] + listed(codes) + listed(octets)
+
+
+def low_first(value, length):
+    return list(value.to_bytes(length, "little"))
+
+
+def saved_row(number, fields):
+    return low_first(number, 4) + joined(low_first(value, 8) for value in fields)
+
+
+def saved(orders, rows, number):
+    """A table's bytes: orders as (unique, codes), rows as (number, fields), and the next number."""
+    out = [len(orders)]
+    for unique, codes in orders:
+        out += (list(codes) + [0, 0, 0])[:4] + [unique]
+    out += low_first(len(rows), 4) + low_first(number, 4)
+    return out + joined(saved_row(n, fields) for n, fields in rows)
+
+
 def joined(calls):
     return [number for call in calls for number in call]
 
